@@ -1,0 +1,1 @@
+"""Factloom: facts and rules, and the reasons of every fact."""
