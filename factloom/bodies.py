@@ -54,14 +54,25 @@ class Step:
     the same blanks in the same slots, so these are looked up once for all ways.
     """
 
-    def __init__(self, shared, offers, guards):
-        """`shared`: the slots of the asker's blanks that stand in an asker ahead of it.
-        `offers`: by the things of these blanks, the place and the new pairs of each fact.
+    def __init__(self, asker, shared, guards):
+        """`shared`: the slots of the asker's blanks that stand in an asker ahead of it, by blank.
         `guards`: pairs of a guard that can be tried from here on and the slots of its blanks.
         """
+        self.asker = asker
         self.shared = shared
-        self.offers = offers
         self.guards = guards
+        # By the things of the shared blanks: the place and the new pairs of each fact that fits.
+        self.offers = {}
+        self.newest = -1
+
+    def offer(self, place, fact):
+        """Take in the fact that has the place, if the asker matches it."""
+        setting = matched(self.asker, fact, [])
+        if setting is not None:
+            shared_things = tuple([thing for blank, thing in setting if blank in self.shared])
+            pairs = [(blank, thing) for blank, thing in setting if blank not in self.shared]
+            self.offers.setdefault(shared_things, []).append((place, pairs))
+            self.newest = place
 
     def allows(self, setting):
         """Whether each guard of this step holds."""
@@ -70,29 +81,22 @@ class Step:
                 return False
         return True
 
-    def carry_on(self, way):
-        """The way with one more asker, once for each fact that fits, in the order of the facts."""
+    def carry_on(self, way, lowest):
+        """The way with one more asker, once for each fact that fits and whose place is `lowest` or above it.
+
+        They come in falling order of places.
+        """
         setting = way[0]
         places = way[1]
-        shared_things = tuple([setting[slot][1] for slot in self.shared])
+        shared_things = tuple([setting[slot][1] for slot in self.shared.values()])
         found = []
-        for place, pairs in self.offers.get(shared_things, []):
+        for place, pairs in reversed(self.offers.get(shared_things, [])):
+            if place < lowest:
+                break
             further = setting + pairs
             if self.allows(further):
                 found.append((further, places + (place,)))
         return found
-
-
-def offers_for(asker, facts, slots):
-    """The facts that the asker matches, by the things of those of its blanks that have a slot."""
-    offers = {}
-    for place, fact in enumerate(facts):
-        setting = matched(asker, fact, [])
-        if setting is not None:
-            shared_things = tuple([thing for blank, thing in setting if blank in slots])
-            pairs = [(blank, thing) for blank, thing in setting if blank not in slots]
-            offers.setdefault(shared_things, []).append((place, pairs))
-    return offers
 
 
 def slots_of(atom, slots):
@@ -105,41 +109,80 @@ def is_ready(guard, slots):
     return len(slots_of(guard, slots)) == len(blanks_in(guard))
 
 
-def steps_for(facts, body):
+def steps_for(body):
     """A step for each asker of the body, in their order."""
     waiting = [guard for guard in guards_in(body) if blanks_in(guard)]
     slots = {}
     steps = []
     for asker in askers_in(body):
-        shared = slots_of(asker, slots)
-        offers = offers_for(asker, facts, slots)
+        shared = dict([(blank, slots[blank]) for blank in blanks_in(asker) if blank in slots])
         for blank in blanks_in(asker):
             slots.setdefault(blank, len(slots))
         # A guard is tried as soon as its blanks are given, so that no way is carried on in vain.
         guards = [(guard, slots_of(guard, slots)) for guard in waiting if is_ready(guard, slots)]
         waiting = [guard for guard in waiting if not is_ready(guard, slots)]
-        steps.append(Step(shared, offers, guards))
+        steps.append(Step(asker, shared, guards))
     return steps
+
+
+class Loom:
+    """A sound body that takes in facts and finds its ways over them.
+
+    Facts may be taken in by several calls. Those of the last call are fresh, and only the ways that have
+    a fresh fact are found: the others could be found ahead of that call.
+    """
+
+    def __init__(self, body):
+        self.steps = steps_for(body)
+        self.is_barred = not all([holds(guard) for guard in guards_in(body) if not blanks_in(guard)])
+        self.taken_in = 0
+        self.fresh = 0
+        self.last_fresh_step = -1
+
+    def take_in(self, facts):
+        """Let the facts stand behind those taken in by the calls ahead of this one."""
+        self.fresh = self.taken_in
+        self.taken_in = self.fresh + len(facts)
+        for step in self.steps:
+            for place, fact in enumerate(facts, start=self.fresh):
+                step.offer(place, fact)
+        self.last_fresh_step = max([n for n, step in enumerate(self.steps) if step.newest >= self.fresh], default=-1)
+
+    def beginnings(self):
+        """A list with the way of no asker, or an empty list where no way can come of it."""
+        if self.is_barred or (self.last_fresh_step < 0 and self.fresh > 0):
+            return []
+        # An asker without any fact ends it here; found later, all ways of the askers ahead would be tried first.
+        if not all([step.newest >= 0 for step in self.steps]):
+            return []
+        return [([], ())]
+
+    def is_whole(self, way):
+        """Whether the way has a place for each asker."""
+        return len(way[1]) == len(self.steps)
+
+    def carried_on(self, way):
+        """The way with one more asker, in falling order of places."""
+        taken = len(way[1])
+        lowest = 0
+        # From here on no asker has a fresh fact, so a way without one must take it now.
+        if taken == self.last_fresh_step and max(way[1], default=-1) < self.fresh:
+            lowest = self.fresh
+        return self.steps[taken].carry_on(way, lowest)
 
 
 def ways(facts, body):
     """The ways of the sound body over the facts, in rising order of their places."""
-    if not all([holds(guard) for guard in guards_in(body) if not blanks_in(guard)]):
-        return []
-    steps = steps_for(facts, body)
-    # An asker without any fact ends it here; found later, all ways of the askers ahead would be tried first.
-    if not all([len(step.offers) > 0 for step in steps]):
-        return []
+    loom = Loom(body)
+    loom.take_in(facts)
     found = []
     # A list of unfinished ways, not a recursion, for a body may have hundreds of askers.
-    unfinished = [([], ())]
+    unfinished = loom.beginnings()
     while unfinished:
+        # The last one has the lowest places, so the ways are found in rising order.
         way = unfinished.pop()
-        taken = len(way[1])
-        if taken == len(steps):
+        if loom.is_whole(way):
             found.append(way)
         else:
-            # The last one is taken next, so the way with the lowest place goes in last.
-            for further in reversed(steps[taken].carry_on(way)):
-                unfinished.append(further)
+            unfinished.extend(loom.carried_on(way))
     return found

@@ -5,8 +5,9 @@ import inspect
 import itertools
 import unittest
 
-from factloom.bodies import check_rule, ways
+from factloom.bodies import Loom, check_rule, ways
 from factloom.errors import BadGuard, BadHead, LooseBlank
+from helper import ways_by_trying_all
 
 
 class Interface(unittest.TestCase):
@@ -302,34 +303,6 @@ class LargeBodies(unittest.TestCase):
         self.assertEqual(ways(facts, askers + (("less", 2, 1),)), [])
 
 
-def is_great(part):
-    return isinstance(part, str) and part[:1].isupper()
-
-
-def put_in(atom, given):
-    return tuple(given[part] if is_great(part) else part for part in atom)
-
-
-def guard_is_true(relation, first, second):
-    if relation == "unlike":
-        return first != second
-    return isinstance(first, int) and isinstance(second, int) and first < second
-
-
-def ways_by_trying_all(facts, body, things):
-    """Point 8 to the letter: every setting of the askers' blanks is tried, the ways are put in order at the end."""
-    askers = [atom for atom in body if atom[0] not in ("less", "unlike")]
-    guards = [atom for atom in body if atom[0] in ("less", "unlike")]
-    blanks = list(dict.fromkeys(part for atom in askers for part in atom[1:] if is_great(part)))
-    found = []
-    for chosen in itertools.product(things, repeat=len(blanks)):
-        given = dict(zip(blanks, chosen))
-        wanted = [put_in(atom, given) for atom in askers]
-        if all(fact in facts for fact in wanted) and all(guard_is_true(*put_in(atom, given)) for atom in guards):
-            found.append((list(given.items()), tuple(facts.index(fact) for fact in wanted)))
-    return sorted(found, key=lambda way: way[1])
-
-
 class AllSmallBodies(unittest.TestCase):
     THINGS = (1, 2, "a")
     FACTS = [("p", 2, 1), ("q", 2), ("p", 1, 1), ("p", "a", 2), ("r",), ("q", "a"), ("p", 1, 2), ("q", 1), ("p", 2)]
@@ -338,18 +311,41 @@ class AllSmallBodies(unittest.TestCase):
         ("less", "X", "Y"), ("less", 1, "Z"), ("unlike", "Y", "X"), ("unlike", "Z", "a"), ("less", 2, 1),
     )
 
-    def test_ways_are_those_of_the_definition(self):
-        tried = 0
+    def sound_bodies(self):
         for count in range(4):
             for body in itertools.product(self.ATOMS, repeat=count):
                 try:
                     check_rule((("head",), body))
                 except LooseBlank:
                     continue
-                tried += 1
-                if ways(self.FACTS, body) != ways_by_trying_all(self.FACTS, body, self.THINGS):
-                    self.fail(f"not the ways of {body!r}")
+                yield body
+
+    def test_ways_are_those_of_the_definition(self):
+        tried = 0
+        for body in self.sound_bodies():
+            tried += 1
+            if ways(self.FACTS, body) != ways_by_trying_all(self.FACTS, body, self.THINGS):
+                self.fail(f"not the ways of {body!r}")
         self.assertGreater(tried, 500)
+
+    def test_loom_finds_just_the_ways_with_a_fact_taken_in_last(self):
+        for body in self.sound_bodies():
+            fresh = len(body) + 4
+            loom = Loom(body)
+            loom.take_in(self.FACTS[:2])
+            loom.take_in(self.FACTS[2:fresh])
+            loom.take_in(self.FACTS[fresh:])
+            found = []
+            unfinished = loom.beginnings()
+            while unfinished:
+                way = unfinished.pop()
+                if loom.is_whole(way):
+                    found.append(way)
+                else:
+                    unfinished.extend(loom.carried_on(way))
+            expected = [way for way in ways(self.FACTS, body) if max(way[1], default=-1) >= fresh]
+            if found != expected:
+                self.fail(f"not the fresh ways of {body!r}")
 
 
 if __name__ == "__main__":

@@ -26,6 +26,12 @@ ALLOWED_METHODS = set(
     items join keys ljust lower lstrip partition pop remove replace reverse rfind rjust rpartition rsplit rstrip
     setdefault split splitlines startswith strip update upper values zfill bit_length""".split()
 )
+ALLOWED_KEYWORDS = {
+    "sorted": {"key", "reverse"}, "min": {"key", "default"}, "max": {"key", "default"}, "sum": {"start"},
+    "enumerate": {"start"}, "zip": {"strict"},
+}
+WALKED_AT_ONCE = {"zip", "enumerate", "reversed", "range", "items", "keys", "values"}
+WALKERS = {"list", "tuple", "dict", "sorted", "sum", "any", "all", "enumerate", "zip", "min", "max"}
 SPECIAL_METHODS = {"__init__", "__eq__", "__repr__", "__str__", "__len__"}
 WORDS_OUT = re.compile(
     r"\b(type|typing|typing_extensions|enum|Enum|IntEnum|StrEnum|Flag|IntFlag|Generic|Protocol|ABC|ABCMeta|namedtuple"
@@ -37,15 +43,21 @@ def package_files():
     return sorted(path for path in PACKAGE.rglob("*") if path.is_file() and "__pycache__" not in path.parts)
 
 
-def own_members(trees):
-    """The methods of the package's classes and the values that they give to their objects."""
-    found = set()
-    for node in [node for tree in trees for node in ast.walk(tree)]:
-        if isinstance(node, ast.ClassDef):
-            found.update(part.name for part in node.body if isinstance(part, ast.FunctionDef))
-        if isinstance(node, ast.Attribute) and isinstance(node.ctx, ast.Store):
-            found.add(node.attr)
-    return found
+def own_methods(trees):
+    """The methods of the package's classes."""
+    classes = [node for tree in trees for node in ast.walk(tree) if isinstance(node, ast.ClassDef)]
+    return {part.name for node in classes for part in node.body if isinstance(part, ast.FunctionDef)}
+
+
+def own_values(trees):
+    """The values that the package's classes give to their objects."""
+    attributes = [node for tree in trees for node in ast.walk(tree) if isinstance(node, ast.Attribute)]
+    return {node.attr for node in attributes if isinstance(node.ctx, ast.Store)}
+
+
+def called_name(call):
+    """The plain name of what is called."""
+    return getattr(call.func, "id", None) or getattr(call.func, "attr", None)
 
 
 def bound_names(tree):
@@ -131,9 +143,40 @@ class Language(unittest.TestCase):
                 self.assertFalse(bound.startswith("_") or bound in PYTHONS_OWN or bound in taken, (name, bound))
 
     def test_methods(self):
-        allowed = ALLOWED_METHODS | own_members(self.trees.values())
+        methods = own_methods(self.trees.values())
+        values = own_values(self.trees.values())
+        self.assertEqual(methods & values, set())
+        for name in (methods | values) - SPECIAL_METHODS - ALLOWED_METHODS:
+            self.assertFalse(any(hasattr(kind, name) for kind in (str, int, list, tuple, dict, set, bytes)), name)
         for where, node in self.nodes(ast.Attribute):
-            self.assertIn(node.attr, allowed, where)
+            self.assertIn(node.attr, ALLOWED_METHODS | methods | values, where)
+
+    def test_keywords_of_calls(self):
+        for where, node in self.nodes(ast.Call):
+            for keyword in node.keywords:
+                self.assertIn(keyword.arg, ALLOWED_KEYWORDS.get(called_name(node), ()), where)
+
+    def test_walks_are_not_kept(self):
+        on_the_spot = set()
+        for where, node in self.nodes(ast.For, ast.comprehension):
+            on_the_spot.add(node.iter)
+        for where, node in self.nodes(ast.Call):
+            if called_name(node) in WALKERS:
+                on_the_spot.update(node.args[:1])
+        for where, node in self.nodes(ast.Call):
+            if called_name(node) in WALKED_AT_ONCE:
+                self.assertTrue(node in on_the_spot, where)
+
+    def test_no_two_files_draw_from_one_another(self):
+        draws = {}
+        for name, tree in self.trees.items():
+            imports = [node for node in tree.body if isinstance(node, ast.ImportFrom)]
+            draws[name] = {node.module.split(".")[1] + ".py" for node in imports}
+        self.assertEqual(draws["__init__.py"], set())
+        settled = set()
+        while any(name not in settled and draws[name] <= settled for name in draws):
+            settled.update(name for name in draws if draws[name] <= settled)
+        self.assertEqual(settled, set(draws))
 
 
 if __name__ == "__main__":
